@@ -1,6 +1,7 @@
 package impl
 
 import (
+	"slices"
 	"strconv"
 	"strings"
 )
@@ -168,16 +169,10 @@ func FractionOf(list []int64) (int64, int64, int64) {
 	if !isExpansion(list) {
 		return 0, 0, ErrRange
 	}
-	f := Point{1, 0}
-	for i := len(list) - 1; i >= 0; i-- {
-		f = Point{list[i]*f[0] + f[1], f[0]}
-		// Ahead of the first number, each step makes f[0] greater, and Q is at least that:
-		// what is too great on the way is so in the end.
-		if !IsPoint(f) {
-			return 0, 0, ErrLimit
-		}
-	}
-	return f[0], f[1], ErrNone
+	// Ahead of the first number, each step makes P greater, and Q is at least that: what is too
+	// great on the way is so in the end.
+	f, code := foldList(list)
+	return f[0], f[1], code
 }
 
 // ConvergentsOf returns the points P, Q of the fractions of all beginnings of the expansion of p
@@ -347,6 +342,19 @@ func expansionOf(p int64, q int64) []int64 {
 		p, q = q, rest
 	}
 	return list
+}
+
+// foldList finds P and Q of a list from its last number on. It stops at the first P that is too
+// great, as the numbers behind it could make it exceed an int64.
+func foldList(list []int64) (Point, int64) {
+	f := Point{1, 0}
+	for _, k := range slices.Backward(list) {
+		f = Point{k*f[0] + f[1], f[0]}
+		if !IsPoint(f) {
+			return Point{}, ErrLimit
+		}
+	}
+	return f, ErrNone
 }
 
 // parseNumbers reads numbers with commas between them. A part that is not the text of the number
