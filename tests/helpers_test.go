@@ -30,6 +30,17 @@ func checkList[T comparable](t *testing.T, call string, got []T, code int64, wan
 	}
 }
 
+// checkNew clears a list, with the room behind it, and makes it again: nothing of the first one may
+// be kept.
+func checkNew[T comparable](t *testing.T, call func() ([]T, int64)) {
+	t.Helper()
+	first, code := call()
+	want := slices.Clone(first)
+	clear(first[:cap(first)])
+	again, _ := call()
+	checkList(t, "a list made again", again, code, want, impl.ErrNone)
+}
+
 // badPoints are arrays that are no points, by their first number, and by their second one.
 func badPoints() []impl.Point {
 	var list []impl.Point

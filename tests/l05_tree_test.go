@@ -263,16 +263,7 @@ func TestFareyList(t *testing.T) {
 }
 
 func TestListsOfFractionsAreNew(t *testing.T) {
-	calls := []func() ([]impl.Point, int64){
-		func() ([]impl.Point, int64) { return impl.FareyList(5) },
-		func() ([]impl.Point, int64) { return impl.ParentsOf(impl.Point{3, 7}) },
-		func() ([]impl.Point, int64) { return impl.GeodesicOf(impl.Point{0, 1}, impl.Point{5, 12}) },
-	}
-	for _, call := range calls {
-		first, code := call()
-		want := slices.Clone(first)
-		clear(first)
-		again, _ := call()
-		checkList(t, "a list of fractions", again, code, want, impl.ErrNone)
-	}
+	checkNew(t, func() ([]impl.Point, int64) { return impl.FareyList(5) })
+	checkNew(t, func() ([]impl.Point, int64) { return impl.ParentsOf(impl.Point{3, 7}) })
+	checkNew(t, func() ([]impl.Point, int64) { return impl.GeodesicOf(impl.Point{0, 1}, impl.Point{5, 12}) })
 }
