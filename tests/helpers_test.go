@@ -106,3 +106,11 @@ func divisorByCounting(a int64, b int64) int64 {
 	}
 	return greatest
 }
+
+// numbersFrom makes numbers in 0..m - 1 that look like any, and are the same each time.
+func numbersFrom(seed uint64) func(m int64) int64 {
+	return func(m int64) int64 {
+		seed = seed*6364136223846793005 + 1442695040888963407
+		return int64(seed>>33) % m
+	}
+}

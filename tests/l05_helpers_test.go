@@ -50,11 +50,7 @@ func noFractions() []impl.Point {
 // manyFractions are n fractions with numbers up to limit in absolute value, of all sizes.
 func manyFractions(n int, limit int64) []impl.Point {
 	var list []impl.Point
-	state := uint64(5)
-	next := func(m int64) int64 {
-		state = state*6364136223846793005 + 1442695040888963407
-		return int64(state>>33) % m
-	}
+	next := numbersFrom(5)
 	for len(list) < n {
 		p, q := next(1+next(limit+1)), 1+next(1+next(limit))
 		if next(2) == 0 {

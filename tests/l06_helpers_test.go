@@ -23,11 +23,8 @@ func allWords(n int) []string {
 // longWords are words of all sizes up to MaxWord, most of them with long runs.
 func longWords(n int) []string {
 	var list []string
-	state := uint64(6)
-	next := func(m int) int {
-		state = state*6364136223846793005 + 1442695040888963407
-		return int(state>>33) % m
-	}
+	numbers := numbersFrom(6)
+	next := func(m int) int { return int(numbers(int64(m))) }
 	for len(list) < n {
 		word, size, run := "", 1+next(impl.MaxWord), 1+next(60)
 		for letter := next(2); len(word) < size; letter = 1 - letter {

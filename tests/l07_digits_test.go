@@ -158,11 +158,7 @@ func TestTripleOfDigits(t *testing.T) {
 }
 
 func TestTriplesOfManyDigits(t *testing.T) {
-	state := uint64(11)
-	next := func(m int64) int64 {
-		state = state*6364136223846793005 + 1442695040888963407
-		return int64(state>>33) % m
-	}
+	next := numbersFrom(11)
 	great := 0
 	for range 4000 {
 		var digits [][]int64

@@ -63,11 +63,7 @@ func greatTriples(n int) []impl.Triple {
 		{top, 0, 0}, {top, top, 0}, {top, top, top}, {top, 1, 0}, {top, 1, 1}, {top, top, 1}, {top, top - 1, 0}, {top, top - 1, top - 1},
 		{top, top - 1, top - 2}, {top, top / 2, 1}, {top, 618034, 381966}, {top, 754878, 569840}, {832040, 514229, 317811}, {832040, 514229, 0},
 	}
-	state := uint64(7)
-	next := func(m int64) int64 {
-		state = state*6364136223846793005 + 1442695040888963407
-		return int64(state>>33) % m
-	}
+	next := numbersFrom(7)
 	for len(list) < n {
 		a := next(top) + 1
 		b := next(a + 1)
