@@ -357,17 +357,23 @@ func foldList(list []int64) (Point, int64) {
 	return f, ErrNone
 }
 
-// parseNumbers reads numbers with commas between them. A part that is not the text of the number
-// that strconv finds (+1, 01, -0) is none.
+// parseNumbers reads numbers of points with commas between them.
 func parseNumbers(text string) ([]int64, bool) {
 	parts := strings.Split(text, ",")
 	numbers := make([]int64, len(parts))
 	for i, part := range parts {
-		n, err := strconv.ParseInt(part, 10, 64)
-		if err != nil || strconv.FormatInt(n, 10) != part || !isCoord(n) {
+		n, ok := parseNumber(part)
+		if !ok || !isCoord(n) {
 			return nil, false
 		}
 		numbers[i] = n
 	}
 	return numbers, true
+}
+
+// parseNumber reads a number. What is not the text of the number that strconv finds (+1, 01, -0) is
+// none.
+func parseNumber(text string) (int64, bool) {
+	n, err := strconv.ParseInt(text, 10, 64)
+	return n, err == nil && strconv.FormatInt(n, 10) == text
 }
